@@ -1,0 +1,1 @@
+"""What a journey costs at least. Call leastfare.fares.answers."""
