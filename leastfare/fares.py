@@ -9,6 +9,11 @@ CLOSE = 2
 PRICE = 3
 ASK = 4
 BUY = 5
+TICKETS = 6
+RIDE = 7
+BACK = 8
+CHANGE = 9
+BOOKS = 10
 
 
 class Reader:
@@ -34,6 +39,11 @@ class Reader:
         return self.take_many(many)
 
 
+def answer_price(office, reader):
+    told = reader.take_many(2)
+    return office.set_price(told[0], told[1])
+
+
 def answer_ask(office, reader):
     told = reader.take_many(2)
     legs = legs_of(reader.take_row())
@@ -46,9 +56,20 @@ def answer_buy(office, reader):
     return office.buy(told[0], told[1], told[2], legs)
 
 
-def answer_price(office, reader):
+def answer_ride(office, reader):
     told = reader.take_many(2)
-    return office.set_price(told[0], told[1])
+    return office.ride(told[0], told[1])
+
+
+def answer_back(office, reader):
+    told = reader.take_many(2)
+    return office.give_back(told[0], told[1])
+
+
+def answer_change(office, reader):
+    told = reader.take_many(2)
+    legs = legs_of(reader.take_row())
+    return office.change(told[0], told[1], legs)
 
 
 def answer_call(office, reader):
@@ -65,7 +86,17 @@ def answer_call(office, reader):
         return answer_ask(office, reader)
     if call == BUY:
         return answer_buy(office, reader)
-    raise NotImplementedError("there is no call with this number")
+    if call == TICKETS:
+        return office.list_tickets(reader.take())
+    if call == RIDE:
+        return answer_ride(office, reader)
+    if call == BACK:
+        return answer_back(office, reader)
+    if call == CHANGE:
+        return answer_change(office, reader)
+    if call == BOOKS:
+        return office.books()
+    raise ValueError("there is no call with this number")
 
 
 def answers(calls):

@@ -39,12 +39,14 @@ class Card:
 
 
 class Ticket:
-    """A ticket of the fare with this number, for so many legs."""
+    """A ticket of the fare with this number, for so many legs of a journey from the one at start on."""
 
-    def __init__(self, fare, leg_count, paid):
+    def __init__(self, fare, start, leg_count, paid):
         self.fare = fare
+        self.start = start
         self.leg_count = leg_count
         self.paid = paid
+        self.given_back = False
 
 
 class Stretch:
@@ -148,7 +150,7 @@ def tickets_of(plans):
         plan = plans[start]
         leg_count = -plan[2]
         rest = plans[start + leg_count]
-        tickets.append(Ticket(plan[3], leg_count, plan[0] - rest[0]))
+        tickets.append(Ticket(plan[3], start, leg_count, plan[0] - rest[0]))
         start += leg_count
     return tickets
 

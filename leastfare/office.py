@@ -2,6 +2,7 @@
 
 from leastfare.journeys import ANY_STOP, DAY, LAST_STOP, MINUTES_END
 from leastfare.journeys import Card, Fare, cheapest, is_journey, total_paid
+from leastfare.sales import Sale
 
 MOST_MONEY = 1000000
 MOST_FARES = 64
@@ -9,21 +10,15 @@ MOST_SALES = 64
 MOST_BREAKS = 16
 MOST_OFF = 100
 
+GIVEN_BACK = -1
 MISSING = -2
 NOW_WRONG = -4
+ALL_RIDDEN = -11
 GONE = -16
+TOUCHED = -17
 WRONG = -22
 FULL = -28
 NO_TICKETS = -33
-
-
-class Sale:
-    """A journey that was sold; it is kept as it was sold, whatever fares do."""
-
-    def __init__(self, legs, card, tickets):
-        self.legs = legs
-        self.card = card
-        self.tickets = tickets
 
 
 def is_fare(fare):
@@ -125,3 +120,73 @@ class Office:
         cost = total_paid(tickets)
         self.taken += cost
         return [len(self.sales) - 1, cost]
+
+    def has_sale(self, k):
+        return k < len(self.sales)
+
+    def list_tickets(self, k):
+        if not self.has_sale(k):
+            return [MISSING]
+        sale = self.sales[k]
+        answer = [len(sale.tickets)]
+        for ticket in sale.tickets:
+            answer.extend([ticket.fare, ticket.leg_count, ticket.paid, 1 if ticket.given_back else 0])
+        return answer
+
+    def ride(self, k, now):
+        if not self.is_time(now):
+            return [NOW_WRONG]
+        if not self.has_sale(k):
+            return [MISSING]
+        sale = self.sales[k]
+        if sale.legs_left() == 0:
+            return [ALL_RIDDEN]
+        if sale.next_leg().dep < now:
+            return [GONE]
+        if sale.next_ticket().given_back:
+            return [GIVEN_BACK]
+        self.now = now
+        sale.ridden += 1
+        return [sale.legs_left()]
+
+    def give_back(self, k, now):
+        if not self.is_time(now):
+            return [NOW_WRONG]
+        if not self.has_sale(k):
+            return [MISSING]
+        self.now = now
+        sale = self.sales[k]
+        together = 0
+        for ticket in sale.tickets_to_give_back(now):
+            ticket.given_back = True
+            amount = max(0, ticket.paid - self.fee)
+            together += amount
+            self.kept += ticket.paid - amount
+        self.given += together
+        return [together]
+
+    def change(self, k, now, legs):
+        if not self.is_time(now):
+            return [NOW_WRONG]
+        if not self.has_sale(k):
+            return [MISSING]
+        sale = self.sales[k]
+        if sale.is_touched():
+            return [TOUCHED]
+        if not is_journey(legs):
+            return [WRONG]
+        if legs[0].dep < now:
+            return [GONE]
+        tickets = cheapest(self.fares, sale.card, legs)
+        if tickets is None:
+            return [NO_TICKETS]
+        self.now = now
+        more = total_paid(tickets) - total_paid(sale.tickets)
+        due = self.fee + max(0, more)
+        self.taken += due
+        self.kept += self.fee + max(0, -more)
+        sale.exchange(legs, tickets)
+        return [due]
+
+    def books(self):
+        return [0, self.taken, self.given, self.kept]

@@ -5,47 +5,15 @@ import time
 import unittest
 
 from leastfare.fares import answers
-from tests.helper import ask, begin, chain, close, fare, last, line, run, split
-
-
-def covered(told, legs):
-    """The document's words, one behind another, on the numbers of a fare."""
-    source, to, via, cost, first, until, length, breaks = told
-    waits = [two[2] - one[3] for one, two in zip(legs, legs[1:])]
-    return (
-        legs[0][0] == source and legs[-1][1] == to
-        and (via == 255 or via in [leg[1] for leg in legs[:-1]])
-        and all(first <= leg[2] % 1440 <= until for leg in legs)
-        and legs[-1][3] - legs[0][2] <= length
-        and len([wait for wait in waits if wait > 60]) <= breaks
-    )
-
-
-def good_tickets(fares, closed, legs):
-    """All tickets that are good for these legs, as lists of fare and leg count."""
-    if not legs:
-        return [[]]
-    found = []
-    for many in range(1, len(legs) + 1):
-        for number, told in enumerate(fares):
-            if number not in closed and covered(told, legs[:many]):
-                found += [[(number, many)] + rest for rest in good_tickets(fares, closed, legs[many:])]
-    return found
+from tests.helper import ask, begin, best_tickets, chain, close, cost_with, fare, last, line, run, split
 
 
 def expected(fares, closed, legs, off, least):
-    def cost(tickets):
-        prices = [fares[number][3] for number, many in tickets]
-        return sum(min(paid, max(least, (paid * 100 - paid * off) // 100)) for paid in prices)
-
-    def rank(tickets):
-        return cost(tickets), len(tickets), [(-many, number) for number, many in tickets]
-
-    found = good_tickets(fares, closed, legs)
-    if not found:
+    best = best_tickets(fares, closed, legs, (off, least))
+    if best is None:
         return [-33]
-    best = min(found, key=rank)
-    return [cost(best)] + [number for ticket in best for number in ticket]
+    cost = sum(cost_with((off, least), fares[number][3]) for number, many in best)
+    return [cost] + [number for ticket in best for number in ticket]
 
 
 class ToldApart(unittest.TestCase):

@@ -13,7 +13,7 @@ STATEMENTS = (ast.Assign, ast.AugAssign, ast.If, ast.While, ast.For, ast.Return,
 EXPRESSIONS = (ast.Constant, ast.List, ast.Tuple, ast.Dict, ast.BinOp, ast.UnaryOp, ast.Compare, ast.BoolOp,
                ast.IfExp, ast.Call, ast.Attribute, ast.Subscript, ast.Slice, ast.ListComp, ast.Name)
 CALLED = """len range enumerate zip min max sum abs sorted reversed int str bool list tuple dict isinstance
-            any all divmod NotImplementedError""".split()
+            any all divmod ValueError""".split()
 METHODS = """append copy count extend get index insert items join keys pop remove reverse setdefault split update
              values""".split()
 WORDS = """type typing typing_extensions enum Enum IntEnum StrEnum Flag IntFlag Generic Protocol ABC ABCMeta namedtuple
@@ -101,6 +101,20 @@ class Form(unittest.TestCase):
     def test_no_name_is_a_method_and_a_value(self):
         stored = {node.attr for name, node in nodes(ast.Attribute) if isinstance(node.ctx, ast.Store)}
         self.assertFalse(stored & own_methods())
+
+    def test_own_methods_and_values_are_not_like_python_s(self):
+        stored = {node.attr for name, node in nodes(ast.Attribute) if isinstance(node.ctx, ast.Store)}
+        python_s = {name for kind in (str, int, list, dict, set, bytes) for name in dir(kind)}
+        self.assertFalse((stored | own_methods() - {"__init__"}) & python_s)
+
+    def test_no_file_draws_from_one_that_draws_from_it(self):
+        drawn = {name: set() for name, tree in trees()}
+        for name, node in nodes(ast.ImportFrom):
+            drawn[name].add(node.module.split(".")[1] + ".py")
+        while drawn:
+            free = [name for name in drawn if not drawn[name] & set(drawn)]
+            self.assertTrue(free, drawn)
+            drawn = {name: drawn[name] for name in drawn if name not in free}
 
     def test_each_name_once_at_the_top(self):
         for name, tree in trees():
